@@ -1,0 +1,134 @@
+"""The names of the interface stand where the document lists them, and the files keep the plainest rules of language."""
+
+import ast
+import builtins
+import doctest
+import pathlib
+import re
+import unittest
+
+PACKAGE = pathlib.Path(__file__).resolve().parent.parent / "stopsheld"
+
+FUNCTIONS = {
+    "words": {"wrap": ("integer",), "operate": ("operation", "a", "b"), "is_name": ("text",)},
+    "programs": {"definitions": ("program",), "defined_by": ("instruction",), "uses_of": ("row",),
+                 "edges": ("program",), "dominators": ("program",), "immediate": ("program",)},
+}
+CLASSES = {
+    "errors": ("StopsError", "BadProgram", "BadCode", "Clash", "BadPaper", "BadArgument", "BadJournal"),
+}
+
+# L8; print is for __main__.py alone.
+BUILTINS = set("""len range enumerate zip min max sum abs sorted reversed int str bool list tuple dict set frozenset
+    isinstance ord repr any all divmod pow getattr hasattr setattr iter next map Exception ValueError TypeError KeyError
+    IndexError LookupError ZeroDivisionError ArithmeticError OverflowError RuntimeError NotImplementedError
+    AttributeError StopIteration NotImplemented super property staticmethod classmethod""".split())
+LIBRARY = {"heapq", "math", "itertools", "collections", "__future__"}
+NOT_USED = {"register", "mro", "elements", "open", "input", "law", "version_info", "with_traceback", "add_note"}
+
+
+def trees():
+    """Give (path, text, tree) of each file of the package."""
+    found = []
+    for path in sorted(PACKAGE.rglob("*.py")):
+        text = path.read_text(encoding="utf-8")
+        found.append((path, text, ast.parse(text)))
+    return found
+
+
+def bound_names(tree):
+    """Give all names that a file binds, other than attributes and methods."""
+    methods = [row for node in ast.walk(tree) if isinstance(node, ast.ClassDef) for row in node.body]
+    for node in ast.walk(tree):
+        if isinstance(node, ast.Name) and isinstance(node.ctx, ast.Store):
+            yield node.id
+        if isinstance(node, ast.arg):
+            yield node.arg
+        if isinstance(node, (ast.FunctionDef, ast.ClassDef)) and node not in methods:
+            yield node.name
+
+
+class InterfaceTest(unittest.TestCase):
+    def defined_in(self, module, kind):
+        tree = ast.parse((PACKAGE / f"{module}.py").read_text(encoding="utf-8"))
+        return {node.name: node for node in tree.body if isinstance(node, kind)}
+
+    def test_functions_are_defined_in_their_files(self):
+        for module, functions in FUNCTIONS.items():
+            found = self.defined_in(module, ast.FunctionDef)
+            for name, arguments in functions.items():
+                self.assertIn(name, found, module)
+                self.assertEqual(tuple(row.arg for row in found[name].args.args), arguments, name)
+
+    def test_classes_are_defined_in_their_files(self):
+        for module, names in CLASSES.items():
+            found = self.defined_in(module, ast.ClassDef)
+            for name in names:
+                self.assertIn(name, found, module)
+
+
+class ReadmeTest(unittest.TestCase):
+    def test_examples(self):
+        text = (PACKAGE.parent / "README.md").read_text(encoding="utf-8").replace("```", "")
+        examples = doctest.DocTestParser().get_doctest(text, {}, "README.md", "README.md", 0)
+        self.assertGreater(len(examples.examples), 0)
+        self.assertEqual(doctest.DocTestRunner().run(examples).failed, 0)
+
+
+class LanguageTest(unittest.TestCase):
+    def test_the_folder_holds_python_files_alone(self):
+        for path in PACKAGE.rglob("*"):
+            if "__pycache__" not in path.parts and not path.is_dir():
+                self.assertRegex(path.name, r"\A[a-z0-9_]+\.py\Z")
+        self.assertTrue((PACKAGE / "__init__.py").exists())
+
+    def test_sizes(self):
+        for path, text, tree in trees():
+            lines = text.split("\n")
+            self.assertLessEqual(len(lines), 400, path)
+            self.assertLessEqual(max(len(line) for line in lines), 120, path)
+            for node in ast.walk(tree):
+                if isinstance(node, ast.FunctionDef):
+                    self.assertLessEqual(node.end_lineno - node.lineno + 1, 40, (path, node.name))
+
+    def test_characters(self):
+        for path, text, _ in trees():
+            self.assertIsNone(re.search(r"[^ -~\n]", text), path)
+
+    def test_imports(self):
+        for path, _, tree in trees():
+            for node in ast.walk(tree):
+                if isinstance(node, ast.Import):
+                    self.assertEqual((path.name, [row.name for row in node.names]), ("__main__.py", ["sys"]))
+                if isinstance(node, ast.ImportFrom):
+                    self.assertEqual(node.level, 0, path)
+                    self.assertIn(node, tree.body, path)
+                    self.assertTrue(node.module.startswith("stopsheld.") or node.module in LIBRARY, node.module)
+
+    def test_module_level(self):
+        plain = (ast.FunctionDef, ast.ClassDef, ast.ImportFrom, ast.Assign)
+        for path, _, tree in trees():
+            for at, node in enumerate(tree.body):
+                docstring = at == 0 and isinstance(node, ast.Expr) and isinstance(node.value, ast.Constant)
+                self.assertTrue(docstring or isinstance(node, plain) or path.name == "__main__.py", (path, node.lineno))
+
+    def test_builtins(self):
+        for path, _, tree in trees():
+            bound = set(bound_names(tree))
+            self.assertEqual(bound & set(dir(builtins)), set(), path)
+            self.assertEqual(bound & NOT_USED, set(), path)
+            used = {node.id for node in ast.walk(tree) if isinstance(node, ast.Name)}
+            self.assertEqual((used & set(dir(builtins))) - BUILTINS - {"print"}, set(), path)
+            if path.name != "__main__.py":
+                self.assertNotIn("print", used, path)
+
+    def test_statements_and_numbers(self):
+        for path, _, tree in trees():
+            for node in ast.walk(tree):
+                barred = isinstance(node, (ast.Global, ast.AsyncFunctionDef, ast.Await, ast.Div))
+                barred = barred or (isinstance(node, ast.Constant) and isinstance(node.value, (float, complex)))
+                self.assertFalse(barred, (path, getattr(node, "lineno", None)))
+
+
+if __name__ == "__main__":
+    unittest.main()
