@@ -39,13 +39,13 @@ def edges(program):
     numbers = {block[0]: number for number, block in enumerate(program)}
     found = []
     for number, block in enumerate(program):
-        for side, (target, arguments) in enumerate(_sides(block[3])):
+        for side, (target, arguments) in enumerate(sides(block[3])):
             found.append((number, side, numbers[target], arguments))
     return tuple(found)
 
 
-def _sides(end):
-    """Give the (name of the target, arguments) of the sides of an end."""
+def sides(end):
+    """Give (name of the target, arguments) for each side of an end, of code with moves in place of the arguments."""
     if end[0] == "jump":
         return ((end[1], end[2]),)
     if end[0] == "branch":
@@ -57,12 +57,12 @@ def dominators(program):
     """Give for each block the numbers of its dominators, ascending, itself too."""
     # A block dominates just those blocks that cannot be reached any more without it.
     many = len(program)
-    reached = [_reached_without(program, barred) for barred in range(many)]
+    reached = [reached_without(program, barred) for barred in range(many)]
     return tuple([tuple([at for at in range(many) if block not in reached[at]]) for block in range(many)])
 
 
-def _reached_without(program, barred):
-    """Give the numbers of the blocks to which a way from the entry leads that avoids the barred block."""
+def reached_without(program, barred):
+    """Give the numbers of the blocks to which a way from the entry leads that avoids the barred one (None: any way)."""
     if barred == 0:
         return []
     rows = edges(program)

@@ -13,6 +13,17 @@ FUNCTIONS = {
     "words": {"wrap": ("integer",), "operate": ("operation", "a", "b"), "is_name": ("text",)},
     "programs": {"definitions": ("program",), "defined_by": ("instruction",), "uses_of": ("row",),
                  "edges": ("program",), "dominators": ("program",), "immediate": ("program",)},
+    "reading": {"parse_lines": ("text",), "parse_program": ("text",)},
+    "writing": {"program_text": ("program",)},
+    "running": {"first_state": ("program", "inputs"), "step": ("program", "state", "given"),
+                "run": ("program", "inputs", "given", "most"), "trace": ("program", "inputs", "given", "most")},
+    "living": {"live_at": ("program", "point"), "live_into": ("program", "block"), "definition_sets": ("program",),
+               "clashes": ("program",), "pressure": ("program",)},
+    "colours": {"assign": ("program", "registers"), "conflicts": ("program", "assignment"),
+                "cost": ("program", "assignment"), "coalesce": ("program", "assignment")},
+    "moves": {"order_moves": ("moves",), "do_moves": ("moves", "contents")},
+    "code": {"locations_in": ("code",), "location_order": ("locations",)},
+    "codetext": {"parse_code": ("text",), "code_text": ("code",)},
 }
 CLASSES = {
     "errors": ("StopsError", "BadProgram", "BadCode", "Clash", "BadPaper", "BadArgument", "BadJournal"),

@@ -1,0 +1,140 @@
+"""Programs that the tests make by chance, from seeds, and ways through programs step by step."""
+
+import random
+
+from stopsheld.programs import defined_by, uses_of
+
+LETTERS = "abcdefghijklmnopqrstuvwxyz"
+# n!, by a loop in which one is live all around.
+LOOP_TEXT = """block a n
+one = const 1
+jump b n one
+block b k p
+q = mul p k
+l = sub k one
+branch l b l q else c
+block c
+return q"""
+OPERATIONS = ("add", "sub", "mul", "less", "equal")
+
+
+def reached(targets):
+    """Give the blocks that can be reached by rows of targets."""
+    found = [0]
+    for block in found:
+        found.extend([target for target in dict.fromkeys(targets[block]) if target not in found])
+    return found
+
+
+def random_targets(chance, many):
+    """Give rows of targets by which all blocks can be reached, from one of which nothing goes on."""
+    while True:
+        targets = []
+        for _ in range(many):
+            row = [chance.randrange(1, many) for _ in range(chance.choice((0, 1, 1, 2, 2)))] if many > 1 else []
+            targets.append(tuple(row))
+        if len(reached(targets)) == many:
+            return targets
+
+
+def above(targets, block):
+    """Give the other blocks without which a block cannot be reached."""
+    found = []
+    for at in range(len(targets)):
+        cut = [() if number == at else row for number, row in enumerate(targets)]
+        if at != block and (at == 0 or block not in reached(cut)):
+            found.append(at)
+    return found
+
+
+def random_program(chance, most_blocks=5, most_definitions=16):
+    """Give a right program of at most so many blocks and definitions."""
+    many = chance.randint(1, most_blocks)
+    targets = random_targets(chance, many)
+    names = chance.sample([letter + digit for letter in LETTERS for digit in ("", "1")], most_definitions)
+    blocks = chance.sample(LETTERS, many)
+    parameters, kinds = [], []
+    for number in range(many):
+        row = [names.pop() for _ in range(min(len(names), chance.randint(0, 3)))]
+        wanted = [chance.choice(("const", "op", "op", "op", "read", "print")) for _ in range(chance.randint(0, 4))]
+        if number == 0 and not row:
+            wanted.insert(0, chance.choice(("const", "read")))
+        made = []
+        for kind in wanted:
+            if kind == "print":
+                made.append((kind, None))
+            elif names:
+                made.append((kind, names.pop()))
+        parameters.append(row)
+        kinds.append(made)
+    return fill(chance, blocks, targets, parameters, kinds)
+
+
+def fill(chance, blocks, targets, parameters, kinds):
+    """Give the program of which the blocks, edges and defined variables are told, with used ones by chance."""
+    program = []
+    for number, name in enumerate(blocks):
+        known = list(parameters[number])
+        for at in above(targets, number):
+            known.extend(parameters[at] + [variable for _, variable in kinds[at] if variable])
+        instructions = []
+        for kind, variable in kinds[number]:
+            instructions.append(instruction_of(chance, kind, variable, known))
+            known.extend([variable] if variable else [])
+        sides = []
+        for target in targets[number]:
+            sides.extend([blocks[target], tuple([chance.choice(known) for _ in parameters[target]])])
+        ends = {0: ("return", chance.choice(known)), 1: ("jump",), 2: ("branch", chance.choice(known))}
+        end = ends[len(targets[number])] + tuple(sides)
+        program.append((name, tuple(parameters[number]), tuple(instructions), end))
+    return tuple(program)
+
+
+def instruction_of(chance, kind, variable, known):
+    """Give an instruction of a kind that uses known variables."""
+    if kind == "const" or (kind == "op" and not known):
+        return ("const", variable, chance.choice((0, 1, 2, -1, 7, 300, 32767, -32768)))
+    if kind == "read":
+        return ("read", variable)
+    if kind == "print":
+        return ("print", chance.choice(known))
+    return ("op", variable, chance.choice(OPERATIONS), chance.choice(known), chance.choice(known))
+
+
+def random_programs(seed, many, most_blocks=5, most_definitions=16):
+    """Give a list of right programs, the same for the same seed."""
+    chance = random.Random(seed)
+    return [random_program(chance, most_blocks, most_definitions) for _ in range(many)]
+
+
+def rows_of(program, block):
+    """Give the instructions and the end of a block."""
+    return program[block][2] + (program[block][3],)
+
+
+def goes_to(program, block):
+    """Give the numbers of the targets of a block."""
+    names = [row[0] for row in program]
+    end = program[block][3]
+    told = {"return": (), "jump": end[1:2], "branch": (end[2], end[4]) if end[0] == "branch" else ()}[end[0]]
+    return [names.index(target) for target in told]
+
+
+def is_live(program, point, variable):
+    """Tell by going all ways from a point whether a variable is live there (v1)."""
+    left = [point]
+    seen = []
+    while left:
+        block, number = here = left.pop()
+        if here in seen:
+            continue
+        seen.append(here)
+        row = rows_of(program, block)[number]
+        if variable in uses_of(row):
+            return True
+        if number < len(program[block][2]):
+            if defined_by(row) != variable:
+                left.append((block, number + 1))
+        else:
+            left.extend([(target, 0) for target in goes_to(program, block) if variable not in program[target][1]])
+    return False
