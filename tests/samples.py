@@ -15,6 +15,7 @@ l = sub k one
 branch l b l q else c
 block c
 return q"""
+LOCATIONS = [f"r{number}" for number in range(8)] + [f"s{number}" for number in range(16)] + ["t"]
 OPERATIONS = ("add", "sub", "mul", "less", "equal")
 
 
@@ -105,6 +106,32 @@ def random_programs(seed, many, most_blocks=5, most_definitions=16):
     """Give a list of right programs, the same for the same seed."""
     chance = random.Random(seed)
     return [random_program(chance, most_blocks, most_definitions) for _ in range(many)]
+
+
+def random_moves(chance, places):
+    """Give a row of moves among some places, also to themselves and several to one place."""
+    return tuple([(chance.choice(places), chance.choice(places)) for _ in range(chance.choice((0, 0, 1, 2, 3)))])
+
+
+def random_line(chance, places):
+    """Give a line of code with locations among some places."""
+    first, second, third = [chance.choice(places) for _ in range(3)]
+    return chance.choice((("const", first, chance.choice((0, 5, -32768, 32767))), ("read", first), ("print", first),
+                          ("op", first, chance.choice(OPERATIONS), second, third), ("move", first, second)))
+
+
+def random_code(chance, most_blocks=6):
+    """Give right code by chance; its moves and lines have no sense."""
+    blocks = chance.sample(LETTERS, chance.randint(1, most_blocks))
+    places = chance.sample(LOCATIONS, chance.randint(1, 6))
+    made = []
+    for name in blocks:
+        lines = tuple([random_line(chance, places) for _ in range(chance.randrange(5))])
+        first, second = [(chance.choice(blocks[1:] or blocks), random_moves(chance, places)) for _ in range(2)]
+        used = chance.choice(places)
+        ends = (("return", used), ("jump",) + first, ("branch", used) + first + second)
+        made.append((name, lines, chance.choice(ends if len(blocks) > 1 else ends[:1])))
+    return (tuple(chance.sample(places, chance.randint(0, min(4, len(places))))), tuple(made))
 
 
 def rows_of(program, block):
