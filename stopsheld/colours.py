@@ -83,16 +83,21 @@ def _spilled(program, registers):
     found = []
     row = _first_overfull(rows, found, registers)
     while row is not None:
-        least = min([weights[variable] for variable in row])
-        found.append([variable for variable in row if weights[variable] == least][0])
+        found.append(_lightest(row, weights))
         row = _first_overfull(rows, found, registers)
     order = definitions(program)
-    ordered = [order[at] for _, at in sorted([(-weights[variable], order.index(variable)) for variable in found])]
-    for variable in ordered:
-        others = [other for other in found if other != variable]
+    heaviest_first = sorted([(-weights[name], place) for place, name in enumerate(order) if name in found])
+    for _, at in heaviest_first:
+        others = [name for name in found if name != order[at]]
         if _first_overfull(rows, others, registers) is None:
             found = others
     return found
+
+
+def _lightest(row, weights):
+    """Give the variable of a row that has the least weight, the first one of several."""
+    least = min([weights[variable] for variable in row])
+    return [variable for variable in row if weights[variable] == least][0]
 
 
 def _first_overfull(rows, spilled, registers):

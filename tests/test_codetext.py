@@ -1,12 +1,11 @@
 import itertools
 import random
-import re
 import unittest
 
 from stopsheld.codetext import code_text, parse_code
 from stopsheld.errors import BadCode
 from tests.samples import LOCATIONS, random_code
-from tests.test_reading import NAME, NUMBER, changed
+from tests.test_reading import NAME, NUMBER, changed, line_by_words
 
 NO_LOCATIONS = ("r8", "r9", "r10", "r01", "r00", "r", "r-1", "R0", "r0x", "s16", "s17", "s20", "s100", "s00", "s01",
                 "s015", "s", "S0", "s-1", "T", "tt", "t0", "x", "0", "else", "q0", "", "r0=", "=r0", "r\u0660",
@@ -259,27 +258,17 @@ class PhasesTest(Refusals):
 PLACE = "(?:r[0-7]|s(?:[0-9]|1[0-5])|t)"
 MOVES = f"((?: {PLACE}={PLACE})*)"
 FORMS = (
-    (f"inputs((?: {PLACE})*)", "inputs"), (f"block ({NAME})", "block"), (f"{PLACE} = const ({NUMBER})", "const"),
+    (f"inputs((?: {PLACE})*)", "inputs"), (f"block ({NAME})", "block"), (f"{PLACE} = const {NUMBER}", "const"),
     (f"{PLACE} = (?:add|sub|mul|less|equal) {PLACE} {PLACE}", "op"), (f"{PLACE} = read", "read"),
     (f"{PLACE} = move {PLACE}", "move"), (f"print {PLACE}", "print"), (f"return {PLACE}", "return"),
     (f"jump ({NAME}){MOVES}", "jump"), (f"branch {PLACE} ({NAME}){MOVES} else ({NAME}){MOVES}", "branch"))
-
-
-def line_by_words(line):
-    """Give (kind, parts) of a line by the table of k1, or None."""
-    line = " ".join(re.findall("[^ ]+", line))
-    for form, kind in FORMS:
-        found = re.fullmatch(form, line)
-        if found and (kind != "const" or -32768 <= int(found[1]) <= 32767):
-            return kind, found.groups()
-    return None
 
 
 def fault_by_words(text):
     """Give (line, reason) of the fault of a text by the words of k2, or None."""
     if len(text) > 3000:
         return 0, "text too long"
-    rows = [(at, line_by_words(line)) for at, line in enumerate(text.split("\n"), 1) if line.strip(" ")]
+    rows = [(at, line_by_words(line, FORMS)) for at, line in enumerate(text.split("\n"), 1) if line.strip(" ")]
     for place, (at, row) in enumerate(rows):
         reason = line_reason([row and row[0] for _, row in rows], place)
         if reason:

@@ -395,20 +395,20 @@ class PhasesTest(Refusals):
 
 
 NAME = "(?!else(?: |$))[a-z][a-z0-9]{0,5}"
-NUMBER = "0|-?[1-9][0-9]*"
+NUMBER = "(?P<number>0|-?[1-9][0-9]*)"
 FORMS = (
-    (f"block ({NAME})((?: {NAME})*)", "block"), (f"({NAME}) = const ({NUMBER})", "const"),
+    (f"block ({NAME})((?: {NAME})*)", "block"), (f"({NAME}) = const {NUMBER}", "const"),
     (f"({NAME}) = (add|sub|mul|less|equal) ({NAME}) ({NAME})", "op"), (f"({NAME}) = read", "read"),
     (f"print ({NAME})", "print"), (f"jump ({NAME})((?: {NAME})*)", "jump"),
     (f"branch ({NAME}) ({NAME})((?: {NAME})*) else ({NAME})((?: {NAME})*)", "branch"), (f"return ({NAME})", "return"))
 
 
-def line_by_words(line):
-    """Give (kind, parts) of a line by the table of p2, or None."""
+def line_by_words(line, forms):
+    """Give (kind, parts) of a line by a table of forms, or None."""
     line = " ".join(re.findall("[^ ]+", line))
-    for form, kind in FORMS:
+    for form, kind in forms:
         found = re.fullmatch(form, line)
-        if found and (kind != "const" or -32768 <= int(found[2]) <= 32767):
+        if found and -32768 <= int(found.groupdict().get("number", "0")) <= 32767:
             return kind, found.groups()
     return None
 
@@ -422,7 +422,7 @@ class Reference:
     def __init__(self, text):
         self.text = text
         lines = text.split("\n")
-        self.lines = {at: line_by_words(line) for at, line in enumerate(lines, 1) if line.strip(" ")}
+        self.lines = {at: line_by_words(line, FORMS) for at, line in enumerate(lines, 1) if line.strip(" ")}
         self.heads = [at for at, row in self.lines.items() if row and row[0] == "block"]
 
     def fault(self):
