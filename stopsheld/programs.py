@@ -53,6 +53,11 @@ def sides(end):
     return ()
 
 
+def side_taken(end, words):
+    """Give the side of the edge that is taken by a jump, or by a branch with these words under their names."""
+    return 1 if end[0] == "branch" and words[end[1]] == 0 else 0
+
+
 def dominators(program):
     """Give for each block the numbers of its dominators, ascending, itself too."""
     # A block dominates just those blocks that cannot be reached any more without it.

@@ -1,8 +1,8 @@
 """Runs of programs, step by step."""
 
 from stopsheld.errors import BadArgument
-from stopsheld.programs import definitions, edges
-from stopsheld.store import Store
+from stopsheld.programs import definitions, edges, side_taken
+from stopsheld.store import Store, told_run
 
 
 class ProgramRun(Store):
@@ -13,7 +13,6 @@ class ProgramRun(Store):
         Store.__init__(self, dict(values), list(output), reads)
         self.program = program
         self.point = point
-        self.returned = None
         self.order = definitions(program)
         self.targets = {(block, side): (target, arguments) for block, side, target, arguments in edges(program)}
 
@@ -23,10 +22,11 @@ class ProgramRun(Store):
         instructions = self.program[block][2]
         if number == len(instructions):
             self._leave(block)
-            return True
-        if not self.do_line(instructions[number], given):
+        elif self.do_line(instructions[number], given):
+            self.point = (block, number + 1)
+        else:
             return False
-        self.point = (block, number + 1)
+        self.steps += 1
         return True
 
     def _leave(self, block):
@@ -36,8 +36,7 @@ class ProgramRun(Store):
             self.returned = self.words[end[1]]
             self.point = None
             return
-        side = 1 if end[0] == "branch" and self.words[end[1]] == 0 else 0
-        target, arguments = self.targets[(block, side)]
+        target, arguments = self.targets[(block, side_taken(end, self.words))]
         # All arguments are read ahead of all parameters: one of these can be an argument itself.
         words = [self.words[variable] for variable in arguments]
         for parameter, word in zip(self.program[target][1], words):
@@ -65,14 +64,7 @@ def step(program, state, given):
 
 def run(program, inputs, given, most):
     """Give (status, value, output, steps, words read) of a run of at most so many steps."""
-    going = ProgramRun(program, first_state(program, inputs))
-    steps = 0
-    while steps < most and going.point is not None and going.advance(given):
-        steps += 1
-    status = "waiting" if steps < most else "running"
-    if going.point is None:
-        status = "returned"
-    return (status, going.returned, tuple(going.output), steps, tuple(given[:going.reads]))
+    return told_run(ProgramRun(program, first_state(program, inputs)), given, most)
 
 
 def trace(program, inputs, given, most):

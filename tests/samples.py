@@ -2,6 +2,11 @@
 
 import random
 
+from stopsheld.code import locations_in
+from stopsheld.colours import assign, coalesce
+from stopsheld.errors import BadPaper
+from stopsheld.making import make_code
+from stopsheld.papers import find_paper
 from stopsheld.programs import defined_by, uses_of
 
 LETTERS = "abcdefghijklmnopqrstuvwxyz"
@@ -165,3 +170,65 @@ def is_live(program, point, variable):
         else:
             left.extend([(target, 0) for target in goes_to(program, block) if variable not in program[target][1]])
     return False
+
+
+def random_assignment(chance, program):
+    """Give an assignment without conflicts, made, sometimes coalesced, and with other locations by chance."""
+    assignment = assign(program, chance.randint(0, 8))
+    if chance.random() < 0.5:
+        assignment = coalesce(program, assignment)
+    used = list(dict.fromkeys([location for _, location in assignment]))
+    others = dict(zip(used, chance.sample(LOCATIONS[:-1], len(used))))
+    return tuple([(variable, others[location]) for variable, location in assignment])
+
+
+def with_move(chance, code):
+    """Give code with one more move, as a line or on an edge, by chance."""
+    inputs, blocks = code
+    move = tuple(chance.sample(locations_in(code) + (chance.choice(LOCATIONS),), 2))
+    at = chance.randrange(len(blocks))
+    name, lines, end = blocks[at]
+    rows = [place for place, part in enumerate(end) if isinstance(part, tuple)]
+    if rows and chance.random() < 0.5:
+        row = chance.choice(rows)
+        place = chance.randint(0, len(end[row]))
+        end = end[:row] + (end[row][:place] + (move,) + end[row][place:],) + end[row + 1:]
+    else:
+        place = chance.randint(0, len(lines))
+        lines = lines[:place] + (("move",) + move,) + lines[place:]
+    return (inputs, blocks[:at] + ((name, lines, end),) + blocks[at + 1:])
+
+
+def has_paper(program, code):
+    """Tell whether a program and code have a right paper."""
+    try:
+        find_paper(program, code)
+    except BadPaper:
+        return False
+    return True
+
+
+def random_code_for(chance, program, many):
+    """Give code with a right paper for a program: made, and then up to so many more moves that do no harm."""
+    code = make_code(program, random_assignment(chance, program))
+    for _ in range(chance.randint(0, many)):
+        other = with_move(chance, code)
+        code = other if has_paper(program, other) else code
+    return code
+
+
+def random_words(chance, many):
+    """Give a tuple of so many words, most of them small."""
+    return tuple([chance.choice((0, 0, 1, 1, 2, 3, -1, 5, 32767, -32768)) for _ in range(many)])
+
+
+def random_cases(seed, many, most_blocks=5, most_moves=6):
+    """Give a list of (program, code with a right paper, inputs, words), the same for the same seed."""
+    chance = random.Random(seed)
+    found = []
+    for _ in range(many):
+        program = random_program(chance, most_blocks)
+        code = random_code_for(chance, program, most_moves)
+        words = random_words(chance, chance.choice((0, 1, 3, 8, 40)))
+        found.append((program, code, random_words(chance, len(program[0][1])), words))
+    return found
