@@ -24,9 +24,28 @@ FUNCTIONS = {
     "moves": {"order_moves": ("moves",), "do_moves": ("moves", "contents")},
     "code": {"locations_in": ("code",), "location_order": ("locations",)},
     "codetext": {"parse_code": ("text",), "code_text": ("code",)},
+    "machine": {"first": ("code", "inputs"), "tick": ("code", "state", "given"), "is_step": ("code", "place"),
+                "run_code": ("code", "inputs", "given", "most")},
+    "making": {"make_code": ("program", "assignment")},
+    "papers": {"greatest": ("program", "code"), "check_paper": ("program", "code", "paper"),
+               "find_paper": ("program", "code"), "follow_move": ("facts", "move"),
+               "follow_line": ("facts", "line", "variable")},
+    "stops": {"point_of": ("code", "place"), "facts_at": ("program", "code", "paper", "place"),
+              "told_at": ("program", "code", "paper", "place")},
+    "listing": {"listing": ("program", "code"), "read_listing": ("text",)},
+    "questions": {"steps_made": ("session",), "defined": ("session", "variable"), "since": ("session", "condition"),
+                  "slice_of": ("session", "variable"), "words_of": ("session", "variable")},
+    "journal": {"replay": ("program", "code", "inputs", "given", "many", "text")},
 }
 CLASSES = {
     "errors": ("StopsError", "BadProgram", "BadCode", "Clash", "BadPaper", "BadArgument", "BadJournal"),
+    "sessions": ("Session",),
+}
+METHODS = {
+    "__init__": ("program", "code", "inputs", "given", "many"), "forth": (), "back": (), "to": ("position",),
+    "until": ("condition",), "back_until": ("condition",), "branch": ("given",), "go": ("timeline",), "position": (),
+    "length": (), "timeline": (), "timelines": (), "snapshots": (), "ticks": (), "stop": (), "state": (),
+    "journal": (),
 }
 
 # L8; print is for __main__.py alone.
@@ -76,6 +95,13 @@ class InterfaceTest(unittest.TestCase):
             found = self.defined_in(module, ast.ClassDef)
             for name in names:
                 self.assertIn(name, found, module)
+
+    def test_methods_are_defined_in_their_class(self):
+        session = self.defined_in("sessions", ast.ClassDef)["Session"]
+        found = {node.name: node for node in session.body if isinstance(node, ast.FunctionDef)}
+        for name, arguments in METHODS.items():
+            self.assertIn(name, found)
+            self.assertEqual(tuple(row.arg for row in found[name].args.args), ("self",) + arguments, name)
 
 
 class ReadmeTest(unittest.TestCase):
